@@ -99,6 +99,33 @@ func anyProfile(n *noise, count int) impl.Profile {
 	return p
 }
 
+// wantToldAgain calls what tells of each row and column, and then once more in the opposite order, so that anything that is kept from call to call is another thing.
+func wantToldAgain(t *testing.T, rows, columns int, all func(i, j int) []string) {
+	t.Helper()
+	var first [][]string
+	for i := range rows {
+		for j := range columns {
+			first = append(first, all(i, j))
+		}
+	}
+	for i := rows - 1; i >= 0; i-- {
+		for j := columns - 1; j >= 0; j-- {
+			if again := all(i, j); !slices.Equal(again, first[i*columns+j]) {
+				t.Errorf("row %v, column %v: got %v, then %v", i, j, first[i*columns+j], again)
+			}
+		}
+	}
+	for _, list := range first {
+		for k, got := range list {
+			if strings.HasPrefix(got, "failed") {
+				// Within another goroutine, a test is not ended, but only marked.
+				t.Errorf("a failure of function %v has other results than zero values: %v", k, list)
+				return
+			}
+		}
+	}
+}
+
 func TestPromise1ProfilesReturnTheSameAgain(t *testing.T) {
 	profiles := someProfiles(8)
 	bits := specialBits()
@@ -108,26 +135,7 @@ func TestPromise1ProfilesReturnTheSameAgain(t *testing.T) {
 			x, y, z := num(bits[j]), num(bits[(i+j)%len(bits)]), num(bits[(3*i+5*j)%len(bits)])
 			return append(allOfProfile(p, q, x, y), allOfNumbers(p, q, x, y, z)...)
 		}
-		var first [][]string
-		for i := range profiles {
-			for j := range bits {
-				first = append(first, all(i, j))
-			}
-		}
-		for i := len(profiles) - 1; i >= 0; i-- {
-			for j := len(bits) - 1; j >= 0; j-- {
-				if again := all(i, j); !slices.Equal(again, first[i*len(bits)+j]) {
-					t.Errorf("profile %v, %08x: got %v, then %v", i, bits[j], first[i*len(bits)+j], again)
-				}
-			}
-		}
-		for _, list := range first {
-			for _, got := range list {
-				if strings.HasPrefix(got, "failed") {
-					t.Fatalf("a failure has other results than zero values: %v", list)
-				}
-			}
-		}
+		wantToldAgain(t, len(profiles), len(bits), all)
 	})
 }
 
